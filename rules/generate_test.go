@@ -1,0 +1,139 @@
+package rules
+
+import (
+	"math"
+	"math/rand"
+	"reflect"
+	"strings"
+
+	"tabellion/api"
+)
+
+var numbers = []int{
+	0, 1, 2, 3, 4, 5, 6, 7, 8, 12, 19, 24, 40, 63, 64, 65, 100, 127, 128, 255, 256, 400, 401, 511, 512, 513, 2000, 2001,
+	65535, 65536, 1 << 23, 1 << 24, 1 << 31, 1 << 40, 1 << 48, 1<<62 - 1, api.MaxNum, api.MaxNum + 1, api.MaxCost + 1,
+	api.Million, math.MaxInt, math.MinInt, math.MinInt + 1, -1, -2, -3, -api.MaxNum, -api.MaxNum - 1,
+}
+
+var texts = []string{
+	"", "a", "b", "c", "t", "u", "t_1", "count", "sum", "min", "max", "length", "lower", "upper", "abs", "coalesce",
+	"nullif", "select", "from", "a%", "_b\\", "\\%", "it's", "\xff", "\x00", "a\xff\xff", "\n", " ", "0", "-1", "12", "007",
+	"select a from t", "select * from t where a = 1", "create table t (a int, b text, unique (a))", "insert into t values (1, 'x')",
+	"update t set a = 2 where b is null", "delete from t", "a + 1 * b", "not a = 1 or b is not null", "select", "((((", "begin",
+	"commit", "'x", "0: begin\n", "power 5\nopen\nflush 3\ncheckpoint\n", "7: x\n", "aaaaaaaaaaaaaaaaaaaaa",
+	"x is null and y in (1, 2) or exists (select 1)",
+}
+
+func text(r *rand.Rand) string {
+	switch r.Intn(12) {
+	case 0:
+		return strings.Repeat(texts[r.Intn(len(texts))], r.Intn(60))
+	case 1:
+		b := make([]byte, r.Intn(40))
+		for i := range b {
+			b[i] = byte(r.Intn(256))
+		}
+		return string(b)
+	case 2:
+		return pageText(r)
+	case 3:
+		return texts[r.Intn(len(texts))] + " " + texts[r.Intn(len(texts))]
+	}
+	return texts[r.Intn(len(texts))]
+}
+
+func number(r *rand.Rand) int {
+	if r.Intn(3) == 0 {
+		return numbers[r.Intn(len(numbers))]
+	}
+	return r.Intn(14) - 1
+}
+
+// generate makes an arbitrary value; deep limits how far lists go on within lists.
+func generate(r *rand.Rand, t reflect.Type, deep int) reflect.Value {
+	if v, ok := special(r, t, deep); ok {
+		return v
+	}
+	out := reflect.New(t).Elem()
+	switch t.Kind() {
+	case reflect.Int:
+		out.SetInt(int64(number(r)))
+	case reflect.Bool:
+		out.SetBool(r.Intn(2) == 0)
+	case reflect.String:
+		out.SetString(text(r))
+	case reflect.Slice:
+		n := size(r, deep)
+		if n > 0 {
+			out.Set(reflect.MakeSlice(t, n, n))
+		}
+		for i := 0; i < n; i++ {
+			out.Index(i).Set(generate(r, t.Elem(), deep-1))
+		}
+	case reflect.Array:
+		for i := 0; i < t.Len(); i++ {
+			out.Index(i).Set(generate(r, t.Elem(), deep))
+		}
+	case reflect.Struct:
+		for i := 0; i < t.NumField(); i++ {
+			out.Field(i).Set(generate(r, t.Field(i).Type, deep))
+		}
+	}
+	return out
+}
+
+func size(r *rand.Rand, deep int) int {
+	if deep <= 0 || r.Intn(4) == 0 {
+		return 0
+	}
+	if r.Intn(30) == 0 && deep > 2 {
+		return r.Intn(20)
+	}
+	return r.Intn(4)
+}
+
+// special makes values of types that are hardly ever valid if they are made at random, most of them valid.
+func special(r *rand.Rand, t reflect.Type, deep int) (reflect.Value, bool) {
+	if r.Intn(6) == 0 {
+		return reflect.Value{}, false
+	}
+	var v any
+	switch t {
+	case reflect.TypeOf(api.Value{}):
+		v = value(r)
+	default:
+		return reflect.Value{}, false
+	}
+	return reflect.ValueOf(v), true
+}
+
+func value(r *rand.Rand) api.Value {
+	switch r.Intn(4) {
+	case 0:
+		return api.Value{}
+	case 1:
+		return api.Value{Kind: api.VBool, N: r.Intn(2)}
+	case 2:
+		return api.Value{Kind: api.VInt, N: number(r)}
+	}
+	return api.Value{Kind: api.VText, S: text(r)}
+}
+
+// pageText makes something that resembles a page.
+func pageText(r *rand.Rand) string {
+	b := make([]byte, api.PageSize)
+	b[10] = byte(r.Intn(6))
+	b[17] = 2
+	if r.Intn(2) == 0 {
+		n := 1 + r.Intn(20)
+		b[16], b[17], b[18] = 1, byte((512-n)>>8), byte(512-n)
+		b[19], b[20], b[21], b[22] = b[17], b[18], 0, byte(n)
+		for i := 512 - n; i < 512; i++ {
+			b[i] = byte(r.Intn(4))
+		}
+	}
+	if r.Intn(8) == 0 {
+		b[r.Intn(len(b))] = byte(r.Intn(256))
+	}
+	return string(b)
+}
