@@ -1,6 +1,9 @@
 package rules
 
-import "tabellion/tri"
+import (
+	"tabellion/num"
+	"tabellion/tri"
+)
 
 // calls lists the functions of all layers that have landed.
 func calls() []call {
@@ -14,5 +17,14 @@ func calls() []call {
 		{"tri.Any", tri.Any, 0},
 		{"tri.Value", tri.Value, 0},
 		{"tri.From", tri.From, 0},
+		{"num.In", num.In, 0},
+		{"num.Add", num.Add, zeroes},
+		{"num.Sub", num.Sub, zeroes},
+		{"num.Mul", num.Mul, zeroes},
+		{"num.Div", num.Div, zeroes},
+		{"num.Mod", num.Mod, zeroes},
+		{"num.Neg", num.Neg, zeroes},
+		{"num.Text", num.Text, 0},
+		{"num.Parse", num.Parse, zeroes},
 	}
 }
