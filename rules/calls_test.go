@@ -3,6 +3,7 @@ package rules
 import (
 	"tabellion/num"
 	"tabellion/tri"
+	"tabellion/value"
 )
 
 // calls lists the functions of all layers that have landed.
@@ -26,5 +27,16 @@ func calls() []call {
 		{"num.Neg", num.Neg, zeroes},
 		{"num.Text", num.Text, 0},
 		{"num.Parse", num.Parse, zeroes},
+		{"value.Num", value.Num, 0},
+		{"value.Str", value.Str, 0},
+		{"value.Bool", value.Bool, 0},
+		{"value.Right", value.Right, 0},
+		{"value.Rights", value.Rights, 0},
+		{"value.Compare", value.Compare, zeroes},
+		{"value.Order", value.Order, 0},
+		{"value.Orders", value.Orders, 0},
+		{"value.Sorted", value.Sorted, 0},
+		{"value.Bag", value.Bag, 0},
+		{"value.Text", value.Text, 0},
 	}
 }

@@ -100,14 +100,14 @@ func special(r *rand.Rand, t reflect.Type, deep int) (reflect.Value, bool) {
 	var v any
 	switch t {
 	case reflect.TypeOf(api.Value{}):
-		v = value(r)
+		v = someValue(r)
 	default:
 		return reflect.Value{}, false
 	}
 	return reflect.ValueOf(v), true
 }
 
-func value(r *rand.Rand) api.Value {
+func someValue(r *rand.Rand) api.Value {
 	switch r.Intn(4) {
 	case 0:
 		return api.Value{}
