@@ -1,6 +1,7 @@
 package rules
 
 import (
+	"tabellion/like"
 	"tabellion/num"
 	"tabellion/tri"
 	"tabellion/value"
@@ -38,5 +39,9 @@ func calls() []call {
 		{"value.Sorted", value.Sorted, 0},
 		{"value.Bag", value.Bag, 0},
 		{"value.Text", value.Text, 0},
+		{"like.Match", like.Match, 0},
+		{"like.Exact", like.Exact, zeroes},
+		{"like.Prefix", like.Prefix, 0},
+		{"like.Quote", like.Quote, 0},
 	}
 }
