@@ -3,6 +3,7 @@ package rules
 import (
 	"tabellion/like"
 	"tabellion/num"
+	"tabellion/octet"
 	"tabellion/tri"
 	"tabellion/value"
 )
@@ -43,5 +44,12 @@ func calls() []call {
 		{"like.Exact", like.Exact, zeroes},
 		{"like.Prefix", like.Prefix, 0},
 		{"like.Quote", like.Quote, 0},
+		{"octet.Put", octet.Put, 0},
+		{"octet.Get", octet.Get, zeroes},
+		{"octet.PutText", octet.PutText, 0},
+		{"octet.GetText", octet.GetText, zeroes},
+		{"octet.Sum", octet.Sum, 0},
+		{"octet.Seal", octet.Seal, 0},
+		{"octet.Open", octet.Open, zeroes},
 	}
 }
