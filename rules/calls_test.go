@@ -4,6 +4,7 @@ import (
 	"tabellion/like"
 	"tabellion/num"
 	"tabellion/octet"
+	"tabellion/rowcode"
 	"tabellion/tri"
 	"tabellion/value"
 )
@@ -51,5 +52,8 @@ func calls() []call {
 		{"octet.Sum", octet.Sum, 0},
 		{"octet.Seal", octet.Seal, 0},
 		{"octet.Open", octet.Open, zeroes},
+		{"rowcode.Put", rowcode.Put, zeroes},
+		{"rowcode.Get", rowcode.Get, zeroes},
+		{"rowcode.Size", rowcode.Size, 0},
 	}
 }
