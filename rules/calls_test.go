@@ -1,6 +1,7 @@
 package rules
 
 import (
+	"tabellion/keycode"
 	"tabellion/like"
 	"tabellion/num"
 	"tabellion/octet"
@@ -55,5 +56,8 @@ func calls() []call {
 		{"rowcode.Put", rowcode.Put, zeroes},
 		{"rowcode.Get", rowcode.Get, zeroes},
 		{"rowcode.Size", rowcode.Size, 0},
+		{"keycode.Put", keycode.Put, 0},
+		{"keycode.Get", keycode.Get, zeroes},
+		{"keycode.After", keycode.After, zeroes},
 	}
 }
