@@ -2,6 +2,7 @@ package rules
 
 import (
 	"tabellion/keycode"
+	"tabellion/lex"
 	"tabellion/like"
 	"tabellion/num"
 	"tabellion/octet"
@@ -59,5 +60,9 @@ func calls() []call {
 		{"keycode.Put", keycode.Put, 0},
 		{"keycode.Get", keycode.Get, zeroes},
 		{"keycode.After", keycode.After, zeroes},
+		{"lex.Next", lex.Next, 0},
+		{"lex.Tokens", lex.Tokens, 0},
+		{"lex.Reserved", lex.Reserved, 0},
+		{"lex.Name", lex.Name, 0},
 	}
 }
