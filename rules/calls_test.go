@@ -7,6 +7,7 @@ import (
 	"tabellion/num"
 	"tabellion/octet"
 	"tabellion/rowcode"
+	"tabellion/syntax"
 	"tabellion/tri"
 	"tabellion/value"
 )
@@ -64,5 +65,12 @@ func calls() []call {
 		{"lex.Tokens", lex.Tokens, 0},
 		{"lex.Reserved", lex.Reserved, 0},
 		{"lex.Name", lex.Name, 0},
+		{"syntax.Expr", syntax.Expr, 0},
+		{"syntax.Query", syntax.Query, 0},
+		{"syntax.Stmt", syntax.Stmt, 0},
+		{"syntax.Size", syntax.Size, 0},
+		{"syntax.SameExpr", syntax.SameExpr, 0},
+		{"syntax.SameQuery", syntax.SameQuery, 0},
+		{"syntax.SameStmt", syntax.SameStmt, 0},
 	}
 }
