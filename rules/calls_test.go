@@ -6,6 +6,7 @@ import (
 	"tabellion/like"
 	"tabellion/num"
 	"tabellion/octet"
+	"tabellion/parse"
 	"tabellion/rowcode"
 	"tabellion/syntax"
 	"tabellion/tri"
@@ -72,5 +73,9 @@ func calls() []call {
 		{"syntax.SameExpr", syntax.SameExpr, 0},
 		{"syntax.SameQuery", syntax.SameQuery, 0},
 		{"syntax.SameStmt", syntax.SameStmt, 0},
+		{"parse.Expr", parse.Expr, 0},
+		{"parse.Query", parse.Query, 0},
+		{"parse.Stmt", parse.Stmt, 0},
+		{"parse.Script", parse.Script, 0},
 	}
 }
