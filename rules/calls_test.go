@@ -7,6 +7,7 @@ import (
 	"tabellion/num"
 	"tabellion/octet"
 	"tabellion/parse"
+	"tabellion/print"
 	"tabellion/rowcode"
 	"tabellion/syntax"
 	"tabellion/tri"
@@ -77,5 +78,8 @@ func calls() []call {
 		{"parse.Query", parse.Query, 0},
 		{"parse.Stmt", parse.Stmt, 0},
 		{"parse.Script", parse.Script, 0},
+		{"print.Expr", print.Expr, zeroes},
+		{"print.Query", print.Query, zeroes},
+		{"print.Stmt", print.Stmt, zeroes},
 	}
 }
