@@ -9,6 +9,7 @@ import (
 	"tabellion/parse"
 	"tabellion/print"
 	"tabellion/rowcode"
+	"tabellion/schema"
 	"tabellion/syntax"
 	"tabellion/tri"
 	"tabellion/value"
@@ -81,5 +82,13 @@ func calls() []call {
 		{"print.Expr", print.Expr, zeroes},
 		{"print.Query", print.Query, zeroes},
 		{"print.Stmt", print.Stmt, zeroes},
+		{"schema.Right", schema.Right, 0},
+		{"schema.Create", schema.Create, 0},
+		{"schema.Index", schema.Index, 0},
+		{"schema.Drop", schema.Drop, 0},
+		{"schema.Find", schema.Find, zeroes},
+		{"schema.Indexes", schema.Indexes, 0},
+		{"schema.Cols", schema.Cols, 0},
+		{"schema.Texts", schema.Texts, 0},
 	}
 }

@@ -7,6 +7,8 @@ import (
 	"strings"
 
 	"tabellion/api"
+	"tabellion/parse"
+	"tabellion/schema"
 )
 
 var numbers = []int{
@@ -101,6 +103,12 @@ func special(r *rand.Rand, t reflect.Type, deep int) (reflect.Value, bool) {
 	switch t {
 	case reflect.TypeOf(api.Value{}):
 		v = someValue(r)
+	case reflect.TypeOf(api.Catalog{}):
+		v = someCatalog(r)
+	case reflect.TypeOf(api.Stmt{}):
+		v = someStmt(r)
+	case reflect.TypeOf(api.Query{}):
+		v = someQuery(r)
 	default:
 		return reflect.Value{}, false
 	}
@@ -117,6 +125,55 @@ func someValue(r *rand.Rand) api.Value {
 		return api.Value{Kind: api.VInt, N: number(r)}
 	}
 	return api.Value{Kind: api.VText, S: text(r)}
+}
+
+func pick(r *rand.Rand, l []string) string { return l[r.Intn(len(l))] }
+
+var statements = []string{
+	"create table t (a int, b text)", "create table t (a int not null, primary key (a))", "create index i on t (a)",
+	"create table u (a int, b text, c bool, unique (a, b), unique (b), foreign key (a) references t (a), check (a > 1))",
+	"create unique index j on u (b, a)", "create table v (x int, y text, foreign key (x, y) references u (a, b))",
+	"drop table t", "drop table u", "drop index i", "drop index t_1", "create table w (a int, foreign key (a) references w (a), unique (a))",
+	"insert into t values (1), (null)", "insert into u (b, a) select 'x', 1", "update t set a = a + 1 where a < 5", "delete from u where b like 'a%'",
+	"begin", "commit", "rollback", "analyze", "vacuum", "checkpoint", "explain select * from t, u where t.a = u.a",
+}
+
+var queries = []string{
+	"select 1", "select a from t where a = 1", "select * from t join u on t.a = u.a where u.b like 'x%' and t.a < 3", "select count(*), a from t group by a having count(*) > 1 order by a",
+	"select a from t union select a from u", "select * from t left join u on t.a = u.a order by 1 desc limit 3", "select a from t where exists (select 1 from u where u.a = t.a)",
+	"select a from t where a in (select a from u) or (select max(a) from u) = a", "select distinct x.a + 1 from (select a from t except all select a from u) as x",
+	"select case when a > 1 then 'a' else b end from u", "select sum(distinct a), min(b) from u", "select * from t, u, v, w where t.a = u.a and u.b = v.y",
+}
+
+func someStmt(r *rand.Rand) api.Stmt {
+	s, _, _ := parse.Stmt(pick(r, statements))
+	if r.Intn(4) == 0 {
+		s = api.Stmt{Kind: api.SQuery, Q: []api.Query{someQuery(r)}}
+	}
+	return s
+}
+
+func someQuery(r *rand.Rand) api.Query {
+	q, _, _ := parse.Query(pick(r, queries))
+	return q
+}
+
+// someCatalog makes a valid catalog, or one that is nearly valid.
+func someCatalog(r *rand.Rand) api.Catalog {
+	c := api.Catalog{Next: 1}
+	for range r.Intn(8) {
+		s, _, _ := parse.Stmt(statements[r.Intn(11)])
+		switch s.Kind {
+		case api.SCreate:
+			c, _ = schema.Create(c, s)
+		case api.SIndex:
+			c, _ = schema.Index(c, s)
+		}
+	}
+	if r.Intn(8) == 0 && len(c.Tables) > 0 {
+		c.Tables[0].Cols = nil
+	}
+	return c
 }
 
 // pageText makes something that resembles a page.
