@@ -12,6 +12,7 @@ import (
 	"tabellion/schema"
 	"tabellion/syntax"
 	"tabellion/tri"
+	"tabellion/types"
 	"tabellion/value"
 )
 
@@ -90,5 +91,10 @@ func calls() []call {
 		{"schema.Indexes", schema.Indexes, 0},
 		{"schema.Cols", schema.Cols, 0},
 		{"schema.Texts", schema.Texts, 0},
+		{"types.Op", types.Op, zeroes},
+		{"types.Func", types.Func, zeroes},
+		{"types.Agg", types.Agg, zeroes},
+		{"types.Join", types.Join, zeroes},
+		{"types.Fits", types.Fits, 0},
 	}
 }
