@@ -10,6 +10,7 @@ import (
 	"tabellion/print"
 	"tabellion/rowcode"
 	"tabellion/schema"
+	"tabellion/scope"
 	"tabellion/syntax"
 	"tabellion/tri"
 	"tabellion/types"
@@ -96,5 +97,9 @@ func calls() []call {
 		{"types.Agg", types.Agg, zeroes},
 		{"types.Join", types.Join, zeroes},
 		{"types.Fits", types.Fits, 0},
+		{"scope.Find", scope.Find, zeroes},
+		{"scope.Star", scope.Star, zeroes},
+		{"scope.Out", scope.Out, 0},
+		{"scope.Order", scope.Order, zeroes},
 	}
 }
