@@ -1,6 +1,7 @@
 package rules
 
 import (
+	"tabellion/algebra"
 	"tabellion/keycode"
 	"tabellion/lex"
 	"tabellion/like"
@@ -101,5 +102,11 @@ func calls() []call {
 		{"scope.Star", scope.Star, zeroes},
 		{"scope.Out", scope.Out, 0},
 		{"scope.Order", scope.Order, zeroes},
+		{"algebra.Term", algebra.Term, 0},
+		{"algebra.Rel", algebra.Rel, 0},
+		{"algebra.Width", algebra.Width, 0},
+		{"algebra.Plain", algebra.Plain, 0},
+		{"algebra.SameTerm", algebra.SameTerm, 0},
+		{"algebra.SameRel", algebra.SameRel, 0},
 	}
 }
