@@ -2,6 +2,7 @@ package rules
 
 import (
 	"tabellion/algebra"
+	"tabellion/bind"
 	"tabellion/keycode"
 	"tabellion/lex"
 	"tabellion/like"
@@ -108,5 +109,9 @@ func calls() []call {
 		{"algebra.Plain", algebra.Plain, 0},
 		{"algebra.SameTerm", algebra.SameTerm, 0},
 		{"algebra.SameRel", algebra.SameRel, 0},
+		{"bind.Term", bind.Term, zeroes},
+		{"bind.Query", bind.Query, zeroes},
+		{"bind.Top", bind.Top, zeroes},
+		{"bind.Checks", bind.Checks, zeroes},
 	}
 }
