@@ -11,6 +11,7 @@ import (
 	"tabellion/parse"
 	"tabellion/print"
 	"tabellion/rowcode"
+	"tabellion/scalar"
 	"tabellion/schema"
 	"tabellion/scope"
 	"tabellion/syntax"
@@ -113,5 +114,8 @@ func calls() []call {
 		{"bind.Query", bind.Query, zeroes},
 		{"bind.Top", bind.Top, zeroes},
 		{"bind.Checks", bind.Checks, zeroes},
+		{"scalar.Apply", scalar.Apply, 0},
+		{"scalar.Eval", scalar.Eval, 0},
+		{"scalar.Truth", scalar.Truth, 0},
 	}
 }
