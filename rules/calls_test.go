@@ -3,6 +3,7 @@ package rules
 import (
 	"tabellion/algebra"
 	"tabellion/bind"
+	"tabellion/fold"
 	"tabellion/keycode"
 	"tabellion/lex"
 	"tabellion/like"
@@ -117,5 +118,8 @@ func calls() []call {
 		{"scalar.Apply", scalar.Apply, 0},
 		{"scalar.Eval", scalar.Eval, 0},
 		{"scalar.Truth", scalar.Truth, 0},
+		{"fold.Const", fold.Const, zeroes},
+		{"fold.Term", fold.Term, 0},
+		{"fold.Rel", fold.Rel, 0},
 	}
 }
