@@ -1,6 +1,7 @@
 package rules
 
 import (
+	"tabellion/agg"
 	"tabellion/algebra"
 	"tabellion/bind"
 	"tabellion/fold"
@@ -121,5 +122,10 @@ func calls() []call {
 		{"fold.Const", fold.Const, zeroes},
 		{"fold.Term", fold.Term, 0},
 		{"fold.Rel", fold.Rel, 0},
+		{"agg.Start", agg.Start, 0},
+		{"agg.Step", agg.Step, 0},
+		{"agg.Merge", agg.Merge, 0},
+		{"agg.Value", agg.Value, 0},
+		{"agg.Run", agg.Run, 0},
 	}
 }
