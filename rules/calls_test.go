@@ -8,6 +8,7 @@ import (
 	"tabellion/keycode"
 	"tabellion/lex"
 	"tabellion/like"
+	"tabellion/naive"
 	"tabellion/num"
 	"tabellion/octet"
 	"tabellion/parse"
@@ -127,5 +128,8 @@ func calls() []call {
 		{"agg.Merge", agg.Merge, 0},
 		{"agg.Value", agg.Value, 0},
 		{"agg.Run", agg.Run, 0},
+		{"naive.Term", naive.Term, 0},
+		{"naive.Run", naive.Run, 0},
+		{"naive.Top", naive.Top, 0},
 	}
 }
