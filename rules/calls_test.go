@@ -4,6 +4,7 @@ import (
 	"tabellion/agg"
 	"tabellion/algebra"
 	"tabellion/bind"
+	"tabellion/conj"
 	"tabellion/fold"
 	"tabellion/keycode"
 	"tabellion/lex"
@@ -131,5 +132,11 @@ func calls() []call {
 		{"naive.Term", naive.Term, 0},
 		{"naive.Run", naive.Run, 0},
 		{"naive.Top", naive.Top, 0},
+		{"conj.Split", conj.Split, 0},
+		{"conj.Join", conj.Join, 0},
+		{"conj.Uses", conj.Uses, 0},
+		{"conj.Move", conj.Move, 0},
+		{"conj.Within", conj.Within, 0},
+		{"conj.Pair", conj.Pair, zeroes},
 	}
 }
