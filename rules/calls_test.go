@@ -14,6 +14,7 @@ import (
 	"tabellion/octet"
 	"tabellion/parse"
 	"tabellion/print"
+	"tabellion/push"
 	"tabellion/rowcode"
 	"tabellion/scalar"
 	"tabellion/schema"
@@ -138,5 +139,7 @@ func calls() []call {
 		{"conj.Move", conj.Move, 0},
 		{"conj.Within", conj.Within, 0},
 		{"conj.Pair", conj.Pair, zeroes},
+		{"push.Once", push.Once, 0},
+		{"push.Rel", push.Rel, 0},
 	}
 }
