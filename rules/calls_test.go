@@ -19,6 +19,7 @@ import (
 	"tabellion/scalar"
 	"tabellion/schema"
 	"tabellion/scope"
+	"tabellion/stat"
 	"tabellion/syntax"
 	"tabellion/tri"
 	"tabellion/types"
@@ -141,5 +142,8 @@ func calls() []call {
 		{"conj.Pair", conj.Pair, zeroes},
 		{"push.Once", push.Once, 0},
 		{"push.Rel", push.Rel, 0},
+		{"stat.Of", stat.Of, 0},
+		{"stat.Right", stat.Right, 0},
+		{"stat.Find", stat.Find, zeroes},
 	}
 }
