@@ -6,6 +6,7 @@ import (
 	"tabellion/bind"
 	"tabellion/conj"
 	"tabellion/fold"
+	"tabellion/guess"
 	"tabellion/keycode"
 	"tabellion/lex"
 	"tabellion/like"
@@ -145,5 +146,9 @@ func calls() []call {
 		{"stat.Of", stat.Of, 0},
 		{"stat.Right", stat.Right, 0},
 		{"stat.Find", stat.Find, zeroes},
+		{"guess.Part", guess.Part, 0},
+		{"guess.Rows", guess.Rows, 0},
+		{"guess.Pairs", guess.Pairs, 0},
+		{"guess.Groups", guess.Groups, 0},
 	}
 }
