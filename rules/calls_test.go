@@ -5,6 +5,7 @@ import (
 	"tabellion/algebra"
 	"tabellion/bind"
 	"tabellion/conj"
+	"tabellion/cost"
 	"tabellion/fold"
 	"tabellion/guess"
 	"tabellion/keycode"
@@ -150,5 +151,14 @@ func calls() []call {
 		{"guess.Rows", guess.Rows, 0},
 		{"guess.Pairs", guess.Pairs, 0},
 		{"guess.Groups", guess.Groups, 0},
+		{"cost.Add", cost.Add, 0},
+		{"cost.Mul", cost.Mul, 0},
+		{"cost.Scan", cost.Scan, 0},
+		{"cost.Seek", cost.Seek, 0},
+		{"cost.Nest", cost.Nest, 0},
+		{"cost.Hash", cost.Hash, 0},
+		{"cost.Merge", cost.Merge, 0},
+		{"cost.Sort", cost.Sort, 0},
+		{"cost.Each", cost.Each, 0},
 	}
 }
