@@ -1,6 +1,7 @@
 package rules
 
 import (
+	"tabellion/access"
 	"tabellion/agg"
 	"tabellion/algebra"
 	"tabellion/bind"
@@ -160,5 +161,8 @@ func calls() []call {
 		{"cost.Merge", cost.Merge, 0},
 		{"cost.Sort", cost.Sort, 0},
 		{"cost.Each", cost.Each, 0},
+		{"access.Range", access.Range, 0},
+		{"access.Paths", access.Paths, 0},
+		{"access.Best", access.Best, 0},
 	}
 }
