@@ -8,6 +8,7 @@ import (
 	"tabellion/conj"
 	"tabellion/cost"
 	"tabellion/fold"
+	"tabellion/graph"
 	"tabellion/guess"
 	"tabellion/keycode"
 	"tabellion/lex"
@@ -164,5 +165,9 @@ func calls() []call {
 		{"access.Range", access.Range, 0},
 		{"access.Paths", access.Paths, 0},
 		{"access.Best", access.Best, 0},
+		{"graph.Leaves", graph.Leaves, 0},
+		{"graph.Mask", graph.Mask, 0},
+		{"graph.Linked", graph.Linked, 0},
+		{"graph.Splits", graph.Splits, 0},
 	}
 }
