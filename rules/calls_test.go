@@ -4,6 +4,7 @@ import (
 	"tabellion/access"
 	"tabellion/agg"
 	"tabellion/algebra"
+	"tabellion/api"
 	"tabellion/bind"
 	"tabellion/conj"
 	"tabellion/cost"
@@ -16,6 +17,7 @@ import (
 	"tabellion/naive"
 	"tabellion/num"
 	"tabellion/octet"
+	"tabellion/order"
 	"tabellion/parse"
 	"tabellion/print"
 	"tabellion/push"
@@ -169,5 +171,14 @@ func calls() []call {
 		{"graph.Mask", graph.Mask, 0},
 		{"graph.Linked", graph.Linked, 0},
 		{"graph.Splits", graph.Splits, 0},
+		{"order.Leaf", order.Leaf, 0},
+		{"order.Pair", order.Pair, 0},
+		{"order.Best", order.Best, 0},
+		{"order.All", allPlans, 0},
 	}
+}
+
+// allPlans asks for so few plans that a result stays within what the promises allow.
+func allPlans(leaves []api.Plan, terms []api.Term, most int) []api.Plan {
+	return order.All(leaves, terms, min(most, 20))
 }
