@@ -19,6 +19,7 @@ import (
 	"tabellion/octet"
 	"tabellion/order"
 	"tabellion/parse"
+	"tabellion/planner"
 	"tabellion/print"
 	"tabellion/push"
 	"tabellion/rowcode"
@@ -175,10 +176,18 @@ func calls() []call {
 		{"order.Pair", order.Pair, 0},
 		{"order.Best", order.Best, 0},
 		{"order.All", allPlans, 0},
+		{"planner.Plan", planner.Plan, 0},
+		{"planner.Right", planner.Right, 0},
+		{"planner.Ways", someWays, 0},
 	}
 }
 
 // allPlans asks for so few plans that a result stays within what the promises allow.
 func allPlans(leaves []api.Plan, terms []api.Term, most int) []api.Plan {
 	return order.All(leaves, terms, min(most, 20))
+}
+
+// someWays asks for so few plans that a result stays within what the promises allow.
+func someWays(c api.Catalog, l []api.Stat, r api.Rel, most int) []api.Plan {
+	return planner.Ways(c, l, r, min(most, 20))
 }
