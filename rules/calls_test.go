@@ -8,6 +8,7 @@ import (
 	"tabellion/bind"
 	"tabellion/conj"
 	"tabellion/cost"
+	"tabellion/explain"
 	"tabellion/fold"
 	"tabellion/graph"
 	"tabellion/guess"
@@ -179,6 +180,9 @@ func calls() []call {
 		{"planner.Plan", planner.Plan, 0},
 		{"planner.Right", planner.Right, 0},
 		{"planner.Ways", someWays, 0},
+		{"explain.Nodes", explain.Nodes, 0},
+		{"explain.Lines", explain.Lines, 0},
+		{"explain.Term", explain.Term, 0},
 	}
 }
 
