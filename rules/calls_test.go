@@ -27,6 +27,7 @@ import (
 	"tabellion/scalar"
 	"tabellion/schema"
 	"tabellion/scope"
+	"tabellion/sorter"
 	"tabellion/stat"
 	"tabellion/syntax"
 	"tabellion/tri"
@@ -183,6 +184,10 @@ func calls() []call {
 		{"explain.Nodes", explain.Nodes, 0},
 		{"explain.Lines", explain.Lines, 0},
 		{"explain.Term", explain.Term, 0},
+		{"sorter.Before", sorter.Before, 0},
+		{"sorter.Sort", sorter.Sort, 0},
+		{"sorter.Runs", sorter.Runs, 0},
+		{"sorter.Merge", sorter.Merge, 0},
 	}
 }
 
