@@ -12,6 +12,7 @@ import (
 	"tabellion/fold"
 	"tabellion/graph"
 	"tabellion/guess"
+	"tabellion/joiner"
 	"tabellion/keycode"
 	"tabellion/lex"
 	"tabellion/like"
@@ -188,6 +189,10 @@ func calls() []call {
 		{"sorter.Sort", sorter.Sort, 0},
 		{"sorter.Runs", sorter.Runs, 0},
 		{"sorter.Merge", sorter.Merge, 0},
+		{"joiner.Nest", joiner.Nest, 0},
+		{"joiner.Hash", joiner.Hash, 0},
+		{"joiner.Merge", joiner.Merge, 0},
+		{"joiner.Alone", func(n int, l [][2]int) []int { return joiner.Alone(min(n, 70000), l) }, 0},
 	}
 }
 
