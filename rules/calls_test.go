@@ -11,6 +11,7 @@ import (
 	"tabellion/explain"
 	"tabellion/fold"
 	"tabellion/graph"
+	"tabellion/grouper"
 	"tabellion/guess"
 	"tabellion/joiner"
 	"tabellion/keycode"
@@ -193,6 +194,9 @@ func calls() []call {
 		{"joiner.Hash", joiner.Hash, 0},
 		{"joiner.Merge", joiner.Merge, 0},
 		{"joiner.Alone", func(n int, l [][2]int) []int { return joiner.Alone(min(n, 70000), l) }, 0},
+		{"grouper.Groups", grouper.Groups, 0},
+		{"grouper.Distinct", grouper.Distinct, 0},
+		{"grouper.Sorted", grouper.Sorted, 0},
 	}
 }
 
