@@ -29,6 +29,7 @@ import (
 	"tabellion/scalar"
 	"tabellion/schema"
 	"tabellion/scope"
+	"tabellion/setop"
 	"tabellion/sorter"
 	"tabellion/stat"
 	"tabellion/syntax"
@@ -197,6 +198,9 @@ func calls() []call {
 		{"grouper.Groups", grouper.Groups, 0},
 		{"grouper.Distinct", grouper.Distinct, 0},
 		{"grouper.Sorted", grouper.Sorted, 0},
+		{"setop.Union", setop.Union, 0},
+		{"setop.Inter", setop.Inter, 0},
+		{"setop.Except", setop.Except, 0},
 	}
 }
 
