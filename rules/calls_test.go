@@ -8,6 +8,7 @@ import (
 	"tabellion/bind"
 	"tabellion/conj"
 	"tabellion/cost"
+	"tabellion/exec"
 	"tabellion/explain"
 	"tabellion/fold"
 	"tabellion/graph"
@@ -201,6 +202,9 @@ func calls() []call {
 		{"setop.Union", setop.Union, 0},
 		{"setop.Inter", setop.Inter, 0},
 		{"setop.Except", setop.Except, 0},
+		{"exec.Leaf", exec.Leaf, 0},
+		{"exec.Run", exec.Run, 0},
+		{"exec.Mem", func(c api.Catalog, db []api.Data, p api.Plan) []api.Row { return exec.Mem(c, db)(p) }, 0},
 	}
 }
 
