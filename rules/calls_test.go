@@ -8,6 +8,7 @@ import (
 	"tabellion/bind"
 	"tabellion/conj"
 	"tabellion/cost"
+	"tabellion/disk"
 	"tabellion/exec"
 	"tabellion/explain"
 	"tabellion/fold"
@@ -205,6 +206,13 @@ func calls() []call {
 		{"exec.Leaf", exec.Leaf, 0},
 		{"exec.Run", exec.Run, 0},
 		{"exec.Mem", func(c api.Catalog, db []api.Data, p api.Plan) []api.Row { return exec.Mem(c, db)(p) }, 0},
+		{"disk.New", disk.New, zeroes},
+		{"disk.Read", disk.Read, zeroes},
+		{"disk.Write", disk.Write, 0},
+		{"disk.ReadPage", disk.ReadPage, zeroes},
+		{"disk.WritePage", disk.WritePage, 0},
+		{"disk.Arm", disk.Arm, 0},
+		{"disk.Start", disk.Start, 0},
 	}
 }
 
