@@ -23,6 +23,7 @@ import (
 	"tabellion/num"
 	"tabellion/octet"
 	"tabellion/order"
+	"tabellion/page"
 	"tabellion/parse"
 	"tabellion/planner"
 	"tabellion/print"
@@ -213,6 +214,24 @@ func calls() []call {
 		{"disk.WritePage", disk.WritePage, 0},
 		{"disk.Arm", disk.Arm, 0},
 		{"disk.Start", disk.Start, 0},
+		{"page.New", page.New, 0},
+		{"page.Right", page.Right, 0},
+		{"page.Kind", page.Kind, 0},
+		{"page.Lsn", page.Lsn, 0},
+		{"page.Link", page.Link, 0},
+		{"page.SetLsn", page.SetLsn, 0},
+		{"page.SetLink", page.SetLink, 0},
+		{"page.Seal", page.Seal, 0},
+		{"page.Sealed", page.Sealed, 0},
+		{"page.Slots", page.Slots, 0},
+		{"page.Get", page.Get, zeroes},
+		{"page.Room", page.Room, 0},
+		{"page.Free", page.Free, 0},
+		{"page.Put", page.Put, zeroes},
+		{"page.Cut", page.Cut, zeroes},
+		{"page.Set", page.Set, zeroes},
+		{"page.Add", page.Add, zeroes},
+		{"page.Del", page.Del, zeroes},
 	}
 }
 
