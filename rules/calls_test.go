@@ -28,6 +28,7 @@ import (
 	"tabellion/planner"
 	"tabellion/print"
 	"tabellion/push"
+	"tabellion/rec"
 	"tabellion/rowcode"
 	"tabellion/scalar"
 	"tabellion/schema"
@@ -232,6 +233,10 @@ func calls() []call {
 		{"page.Set", page.Set, zeroes},
 		{"page.Add", page.Add, zeroes},
 		{"page.Del", page.Del, zeroes},
+		{"rec.Right", rec.Right, 0},
+		{"rec.Put", rec.Put, zeroes},
+		{"rec.Get", rec.Get, 0},
+		{"rec.Same", rec.Same, 0},
 	}
 }
 
