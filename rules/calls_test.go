@@ -19,6 +19,7 @@ import (
 	"tabellion/keycode"
 	"tabellion/lex"
 	"tabellion/like"
+	"tabellion/log"
 	"tabellion/naive"
 	"tabellion/num"
 	"tabellion/octet"
@@ -237,6 +238,11 @@ func calls() []call {
 		{"rec.Put", rec.Put, zeroes},
 		{"rec.Get", rec.Get, 0},
 		{"rec.Same", rec.Same, 0},
+		{"log.New", log.New, 0},
+		{"log.Append", log.Append, 0},
+		{"log.Force", log.Force, shares},
+		{"log.Open", log.Open, zeroes},
+		{"log.Read", log.Read, zeroes},
 	}
 }
 
