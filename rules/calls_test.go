@@ -6,6 +6,7 @@ import (
 	"tabellion/algebra"
 	"tabellion/api"
 	"tabellion/bind"
+	"tabellion/change"
 	"tabellion/conj"
 	"tabellion/cost"
 	"tabellion/disk"
@@ -243,6 +244,9 @@ func calls() []call {
 		{"log.Force", log.Force, shares},
 		{"log.Open", log.Open, zeroes},
 		{"log.Read", log.Read, zeroes},
+		{"change.Right", change.Right, 0},
+		{"change.Do", change.Do, zeroes},
+		{"change.Back", change.Back, 0},
 	}
 }
 
