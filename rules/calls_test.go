@@ -28,6 +28,7 @@ import (
 	"tabellion/page"
 	"tabellion/parse"
 	"tabellion/planner"
+	"tabellion/pool"
 	"tabellion/print"
 	"tabellion/push"
 	"tabellion/rec"
@@ -247,6 +248,16 @@ func calls() []call {
 		{"change.Right", change.Right, 0},
 		{"change.Do", change.Do, zeroes},
 		{"change.Back", change.Back, 0},
+		{"pool.New", pool.New, zeroes},
+		{"pool.At", pool.At, 0},
+		{"pool.Get", pool.Get, shares},
+		{"pool.Pin", pool.Pin, shares},
+		{"pool.Unpin", pool.Unpin, shares},
+		{"pool.Change", pool.Change, shares},
+		{"pool.Redo", pool.Redo, shares},
+		{"pool.Flush", pool.Flush, shares},
+		{"pool.All", pool.All, shares},
+		{"pool.Dirty", pool.Dirty, 0},
 	}
 }
 
