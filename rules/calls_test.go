@@ -41,6 +41,7 @@ import (
 	"tabellion/stat"
 	"tabellion/syntax"
 	"tabellion/tri"
+	"tabellion/txn"
 	"tabellion/types"
 	"tabellion/value"
 )
@@ -258,6 +259,14 @@ func calls() []call {
 		{"pool.Flush", pool.Flush, shares},
 		{"pool.All", pool.All, shares},
 		{"pool.Dirty", pool.Dirty, 0},
+		{"txn.Begin", txn.Begin, shares},
+		{"txn.Find", txn.Find, 0},
+		{"txn.Note", txn.Note, 0},
+		{"txn.Mark", txn.Mark, 0},
+		{"txn.Nest", txn.Nest, shares},
+		{"txn.Commit", txn.Commit, shares},
+		{"txn.Abort", txn.Abort, shares},
+		{"txn.End", txn.End, shares},
 	}
 }
 
