@@ -38,6 +38,7 @@ import (
 	"tabellion/scope"
 	"tabellion/setop"
 	"tabellion/sorter"
+	"tabellion/space"
 	"tabellion/stat"
 	"tabellion/syntax"
 	"tabellion/tri"
@@ -267,6 +268,10 @@ func calls() []call {
 		{"txn.Commit", txn.Commit, shares},
 		{"txn.Abort", txn.Abort, shares},
 		{"txn.End", txn.End, shares},
+		{"space.Format", space.Format, shares},
+		{"space.Alloc", space.Alloc, shares},
+		{"space.Free", space.Free, shares},
+		{"space.Used", space.Used, shares},
 	}
 }
 
