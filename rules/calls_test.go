@@ -16,6 +16,7 @@ import (
 	"tabellion/graph"
 	"tabellion/grouper"
 	"tabellion/guess"
+	"tabellion/heap"
 	"tabellion/joiner"
 	"tabellion/keycode"
 	"tabellion/lex"
@@ -272,6 +273,13 @@ func calls() []call {
 		{"space.Alloc", space.Alloc, shares},
 		{"space.Free", space.Free, shares},
 		{"space.Used", space.Used, shares},
+		{"heap.New", heap.New, shares},
+		{"heap.Insert", heap.Insert, shares},
+		{"heap.Set", heap.Set, shares},
+		{"heap.Cut", heap.Cut, shares},
+		{"heap.Get", heap.Get, shares},
+		{"heap.Scan", heap.Scan, shares},
+		{"heap.Drop", heap.Drop, shares},
 	}
 }
 
