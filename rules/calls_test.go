@@ -23,6 +23,7 @@ import (
 	"tabellion/like"
 	"tabellion/log"
 	"tabellion/naive"
+	"tabellion/node"
 	"tabellion/num"
 	"tabellion/octet"
 	"tabellion/order"
@@ -280,6 +281,16 @@ func calls() []call {
 		{"heap.Get", heap.Get, shares},
 		{"heap.Scan", heap.Scan, shares},
 		{"heap.Drop", heap.Drop, shares},
+		{"node.Less", node.Less, 0},
+		{"node.PutEntry", node.PutEntry, 0},
+		{"node.GetEntry", node.GetEntry, zeroes},
+		{"node.PutChild", node.PutChild, 0},
+		{"node.GetChild", node.GetChild, zeroes},
+		{"node.Right", node.Right, 0},
+		{"node.Entries", node.Entries, 0},
+		{"node.Children", node.Children, 0},
+		{"node.Find", node.Find, 0},
+		{"node.Split", node.Split, zeroes},
 	}
 }
 
