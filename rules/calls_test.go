@@ -6,6 +6,7 @@ import (
 	"tabellion/algebra"
 	"tabellion/api"
 	"tabellion/bind"
+	"tabellion/btree"
 	"tabellion/change"
 	"tabellion/conj"
 	"tabellion/cost"
@@ -291,6 +292,13 @@ func calls() []call {
 		{"node.Children", node.Children, 0},
 		{"node.Find", node.Find, 0},
 		{"node.Split", node.Split, zeroes},
+		{"btree.New", btree.New, shares},
+		{"btree.Put", btree.Put, shares},
+		{"btree.Cut", btree.Cut, shares},
+		{"btree.Range", btree.Range, shares},
+		{"btree.Height", btree.Height, shares},
+		{"btree.Check", btree.Check, shares},
+		{"btree.Drop", btree.Drop, shares},
 	}
 }
 
