@@ -47,6 +47,7 @@ import (
 	"tabellion/tri"
 	"tabellion/txn"
 	"tabellion/types"
+	"tabellion/undo"
 	"tabellion/value"
 )
 
@@ -299,6 +300,9 @@ func calls() []call {
 		{"btree.Height", btree.Height, shares},
 		{"btree.Check", btree.Check, shares},
 		{"btree.Drop", btree.Drop, shares},
+		{"undo.One", undo.One, shares},
+		{"undo.To", undo.To, shares},
+		{"undo.Back", undo.Back, shares},
 	}
 }
 
