@@ -8,6 +8,7 @@ import (
 	"tabellion/bind"
 	"tabellion/btree"
 	"tabellion/change"
+	"tabellion/ckpt"
 	"tabellion/conj"
 	"tabellion/cost"
 	"tabellion/disk"
@@ -303,6 +304,9 @@ func calls() []call {
 		{"undo.One", undo.One, shares},
 		{"undo.To", undo.To, shares},
 		{"undo.Back", undo.Back, shares},
+		{"ckpt.Master", ckpt.Master, 0},
+		{"ckpt.SetMaster", ckpt.SetMaster, shares},
+		{"ckpt.Take", ckpt.Take, shares},
 	}
 }
 
