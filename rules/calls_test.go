@@ -5,6 +5,7 @@ import (
 	"tabellion/agg"
 	"tabellion/algebra"
 	"tabellion/api"
+	"tabellion/aries"
 	"tabellion/bind"
 	"tabellion/btree"
 	"tabellion/change"
@@ -307,6 +308,9 @@ func calls() []call {
 		{"ckpt.Master", ckpt.Master, 0},
 		{"ckpt.SetMaster", ckpt.SetMaster, shares},
 		{"ckpt.Take", ckpt.Take, shares},
+		{"aries.Analyse", aries.Analyse, 0},
+		{"aries.Format", aries.Format, zeroes},
+		{"aries.Open", aries.Open, shares},
 	}
 }
 

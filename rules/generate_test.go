@@ -5,10 +5,16 @@ import (
 	"math/rand"
 	"reflect"
 	"strings"
+	"sync"
 
 	"tabellion/api"
+	"tabellion/aries"
+	"tabellion/btree"
+	"tabellion/heap"
 	"tabellion/parse"
+	"tabellion/pool"
 	"tabellion/schema"
+	"tabellion/txn"
 )
 
 var numbers = []int{
@@ -107,6 +113,8 @@ func special(r *rand.Rand, t reflect.Type, deep int) (reflect.Value, bool) {
 		v = someCatalog(r)
 	case reflect.TypeOf(api.Stmt{}):
 		v = someStmt(r)
+	case reflect.TypeOf(api.Store{}):
+		v = someStore(r, deep)
 	case reflect.TypeOf(api.Query{}):
 		v = someQuery(r)
 	default:
@@ -174,6 +182,50 @@ func someCatalog(r *rand.Rand) api.Catalog {
 		c.Tables[0].Cols = nil
 	}
 	return c
+}
+
+// stores makes a few valid stores: a heap with root 1 and a tree with root 2, transaction 2 running.
+var stores = sync.OnceValue(func() []api.Store {
+	var l []api.Store
+	s, err := aries.Format(api.Size{Log: 90, Pages: 8, Frames: 4})
+	for _, step := range []func(){
+		func() { s, _, err = txn.Begin(s) },
+		func() { s, _, err = heap.New(s, 2) },
+		func() { s, _, err = btree.New(s, 2) },
+		func() { s, _, err = heap.Insert(s, 2, 1, "abc") },
+		func() { s, err = btree.Put(s, 2, 2, api.Entry{Key: "a"}) },
+		func() { s, err = pool.All(s) },
+		func() { s, _, err = heap.Insert(s, 2, 1, "b") },
+	} {
+		if step(); err != api.OK {
+			panic(err)
+		}
+		l = append(l, s)
+	}
+	return l
+})
+
+// someStore makes a valid store, or one with an arbitrary field.
+func someStore(r *rand.Rand, deep int) api.Store {
+	l := stores()
+	s := deepCopy(reflect.ValueOf(l[r.Intn(len(l))])).Interface().(api.Store)
+	if r.Intn(2) == 0 {
+		return s
+	}
+	spoil(r, reflect.ValueOf(&s).Elem(), deep)
+	return s
+}
+
+// spoil makes a field arbitrary, however deep.
+func spoil(r *rand.Rand, v reflect.Value, deep int) {
+	switch {
+	case v.Kind() == reflect.Struct && r.Intn(8) > 0:
+		spoil(r, v.Field(r.Intn(v.NumField())), deep)
+	case v.Kind() == reflect.Slice && v.Len() > 0 && r.Intn(8) > 0:
+		spoil(r, v.Index(r.Intn(v.Len())), deep)
+	default:
+		v.Set(generate(r, v.Type(), min(deep, 2)))
+	}
 }
 
 // pageText makes something that resembles a page.
