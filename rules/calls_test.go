@@ -51,6 +51,7 @@ import (
 	"tabellion/types"
 	"tabellion/undo"
 	"tabellion/value"
+	"tabellion/version"
 )
 
 // calls lists the functions of all layers that have landed.
@@ -311,6 +312,11 @@ func calls() []call {
 		{"aries.Analyse", aries.Analyse, 0},
 		{"aries.Format", aries.Format, zeroes},
 		{"aries.Open", aries.Open, shares},
+		{"version.Put", version.Put, zeroes},
+		{"version.Get", version.Get, zeroes},
+		{"version.Seen", version.Seen, 0},
+		{"version.Pick", version.Pick, 0},
+		{"version.Old", version.Old, 0},
 	}
 }
 
