@@ -30,6 +30,7 @@ import (
 	"tabellion/num"
 	"tabellion/octet"
 	"tabellion/order"
+	"tabellion/overlay"
 	"tabellion/page"
 	"tabellion/parse"
 	"tabellion/planner"
@@ -317,6 +318,9 @@ func calls() []call {
 		{"version.Seen", version.Seen, 0},
 		{"version.Pick", version.Pick, 0},
 		{"version.Old", version.Old, 0},
+		{"overlay.Add", overlay.Add, zeroes},
+		{"overlay.Rows", overlay.Rows, 0},
+		{"overlay.Data", overlay.Data, 0},
 	}
 }
 
