@@ -11,6 +11,7 @@ import (
 	"tabellion/change"
 	"tabellion/ckpt"
 	"tabellion/conj"
+	"tabellion/constr"
 	"tabellion/cost"
 	"tabellion/disk"
 	"tabellion/exec"
@@ -321,6 +322,10 @@ func calls() []call {
 		{"overlay.Add", overlay.Add, zeroes},
 		{"overlay.Rows", overlay.Rows, 0},
 		{"overlay.Data", overlay.Data, 0},
+		{"constr.Row", constr.Row, 0},
+		{"constr.Keys", constr.Keys, 0},
+		{"constr.Refs", constr.Refs, 0},
+		{"constr.All", constr.All, 0},
 	}
 }
 
