@@ -6,6 +6,7 @@ import (
 	"tabellion/algebra"
 	"tabellion/api"
 	"tabellion/aries"
+	"tabellion/base"
 	"tabellion/bind"
 	"tabellion/btree"
 	"tabellion/change"
@@ -326,6 +327,15 @@ func calls() []call {
 		{"constr.Keys", constr.Keys, 0},
 		{"constr.Refs", constr.Refs, 0},
 		{"constr.All", constr.All, 0},
+		{"base.Root", base.Root, zeroes},
+		{"base.Make", base.Make, shares},
+		{"base.Drop", base.Drop, shares},
+		{"base.Load", base.Load, shares},
+		{"base.Put", base.Put, shares},
+		{"base.Close", base.Close, shares},
+		{"base.Erase", base.Erase, shares},
+		{"base.Seek", base.Seek, shares},
+		{"base.Check", base.Check, shares},
 	}
 }
 

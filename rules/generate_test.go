@@ -9,6 +9,7 @@ import (
 
 	"tabellion/api"
 	"tabellion/aries"
+	"tabellion/base"
 	"tabellion/btree"
 	"tabellion/heap"
 	"tabellion/parse"
@@ -115,6 +116,8 @@ func special(r *rand.Rand, t reflect.Type, deep int) (reflect.Value, bool) {
 		v = someStmt(r)
 	case reflect.TypeOf(api.Store{}):
 		v = someStore(r, deep)
+	case reflect.TypeOf(api.Engine{}):
+		v = someEngine(r, deep)
 	case reflect.TypeOf(api.Query{}):
 		v = someQuery(r)
 	default:
@@ -214,6 +217,48 @@ func someStore(r *rand.Rand, deep int) api.Store {
 	}
 	spoil(r, reflect.ValueOf(&s).Elem(), deep)
 	return s
+}
+
+// engines makes a few valid engines with a table t and an index i.
+var engines = sync.OnceValue(func() []api.Engine {
+	var l []api.Engine
+	e := api.Engine{Store: stores()[1], Cat: api.Catalog{Next: 1}, Next: 3, Last: 1}
+	var err api.Errno
+	e.Store, err = txn.Commit(e.Store, 2)
+	for _, step := range []func(){
+		func() { e, err = base.Make(e, firstStmt(statements[0])) },
+		func() { e, err = base.Make(e, firstStmt(statements[2])) },
+		func() { e.Store, _, err = txn.Begin(e.Store) },
+		func() {
+			e, err = base.Put(e, e.Store.Txns[0].Txn, "t", api.Version{Row: 1, From: 1, Data: api.Row{{Kind: api.VInt, N: 5}, {}}})
+		},
+		func() {
+			e, err = base.Put(e, e.Store.Txns[0].Txn, "t", api.Version{Row: 2, From: 1, Data: api.Row{{}, {Kind: api.VText, S: "x"}}})
+		},
+	} {
+		if step(); err != api.OK {
+			panic(err)
+		}
+		l = append(l, e)
+	}
+	e.Store, _ = txn.Commit(e.Store, e.Store.Txns[0].Txn)
+	return append(l, e, e, e)
+})
+
+func firstStmt(sql string) api.Stmt {
+	s, _, _ := parse.Stmt(sql)
+	return s
+}
+
+// someEngine makes a valid engine, or one with an arbitrary field.
+func someEngine(r *rand.Rand, deep int) api.Engine {
+	l := engines()
+	e := deepCopy(reflect.ValueOf(l[r.Intn(len(l))])).Interface().(api.Engine)
+	if r.Intn(2) == 0 {
+		return e
+	}
+	spoil(r, reflect.ValueOf(&e).Elem(), deep)
+	return e
 }
 
 // spoil makes a field arbitrary, however deep.
