@@ -11,6 +11,7 @@ import (
 	"tabellion/btree"
 	"tabellion/change"
 	"tabellion/ckpt"
+	"tabellion/commit"
 	"tabellion/conj"
 	"tabellion/constr"
 	"tabellion/cost"
@@ -336,6 +337,9 @@ func calls() []call {
 		{"base.Erase", base.Erase, shares},
 		{"base.Seek", base.Seek, shares},
 		{"base.Check", base.Check, shares},
+		{"commit.Clash", commit.Clash, 0},
+		{"commit.Do", commit.Do, shares},
+		{"commit.Data", commit.Data, shares},
 	}
 }
 
