@@ -54,6 +54,7 @@ import (
 	"tabellion/txn"
 	"tabellion/types"
 	"tabellion/undo"
+	"tabellion/vacuum"
 	"tabellion/value"
 	"tabellion/version"
 )
@@ -340,6 +341,7 @@ func calls() []call {
 		{"commit.Clash", commit.Clash, 0},
 		{"commit.Do", commit.Do, shares},
 		{"commit.Data", commit.Data, shares},
+		{"vacuum.Run", vacuum.Run, shares},
 	}
 }
 
