@@ -16,6 +16,7 @@ import (
 	"tabellion/constr"
 	"tabellion/cost"
 	"tabellion/disk"
+	"tabellion/engine"
 	"tabellion/exec"
 	"tabellion/explain"
 	"tabellion/fold"
@@ -342,6 +343,11 @@ func calls() []call {
 		{"commit.Do", commit.Do, shares},
 		{"commit.Data", commit.Data, shares},
 		{"vacuum.Run", vacuum.Run, shares},
+		{"engine.New", engine.New, zeroes},
+		{"engine.Open", engine.Open, shares},
+		{"engine.Ask", engine.Ask, shares},
+		{"engine.Analyze", engine.Analyze, shares},
+		{"engine.Check", engine.Check, shares},
 	}
 }
 
