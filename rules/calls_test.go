@@ -46,6 +46,7 @@ import (
 	"tabellion/scalar"
 	"tabellion/schema"
 	"tabellion/scope"
+	"tabellion/session"
 	"tabellion/setop"
 	"tabellion/sorter"
 	"tabellion/space"
@@ -348,6 +349,9 @@ func calls() []call {
 		{"engine.Ask", engine.Ask, shares},
 		{"engine.Analyze", engine.Analyze, shares},
 		{"engine.Check", engine.Check, shares},
+		{"session.New", session.New, 0},
+		{"session.Run", session.Run, shares},
+		{"session.Text", session.Text, shares},
 	}
 }
 
