@@ -46,6 +46,7 @@ import (
 	"tabellion/scalar"
 	"tabellion/schema"
 	"tabellion/scope"
+	"tabellion/script"
 	"tabellion/session"
 	"tabellion/setop"
 	"tabellion/sorter"
@@ -352,6 +353,10 @@ func calls() []call {
 		{"session.New", session.New, 0},
 		{"session.Run", session.Run, shares},
 		{"session.Text", session.Text, shares},
+		{"script.Parse", script.Parse, 0},
+		{"script.Print", script.Print, zeroes},
+		{"script.Run", script.Run, 0},
+		{"script.Line", script.Line, 0},
 	}
 }
 
