@@ -29,6 +29,7 @@ import (
 	"tabellion/lex"
 	"tabellion/like"
 	"tabellion/log"
+	"tabellion/model"
 	"tabellion/naive"
 	"tabellion/node"
 	"tabellion/num"
@@ -357,6 +358,8 @@ func calls() []call {
 		{"script.Print", script.Print, zeroes},
 		{"script.Run", script.Run, 0},
 		{"script.Line", script.Line, 0},
+		{"model.Run", model.Run, 0},
+		{"model.States", model.States, 0},
 	}
 }
 
