@@ -6,6 +6,7 @@ import (
 	"tabellion/algebra"
 	"tabellion/api"
 	"tabellion/aries"
+	"tabellion/audit"
 	"tabellion/base"
 	"tabellion/bind"
 	"tabellion/btree"
@@ -360,6 +361,9 @@ func calls() []call {
 		{"script.Line", script.Line, 0},
 		{"model.Run", model.Run, 0},
 		{"model.States", model.States, 0},
+		{"audit.Same", audit.Same, 0},
+		{"audit.Look", audit.Look, 0},
+		{"audit.Store", audit.Store, 0},
 	}
 }
 
